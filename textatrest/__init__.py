@@ -1,0 +1,1 @@
+"""Textatrest: what a shared text may throw away, exactly, with witnesses."""
