@@ -16,6 +16,32 @@ FUNCTIONS = {
         "signs_of": ["act"],
         "is_act": ["act"],
     },
+    "textatrest.paths": {
+        "comes_before": ["one", "other"],
+        "step_of": ["deed", "index"],
+    },
+    "textatrest.histories": {
+        "version_of": ["hands", "history"],
+        "clock_for": ["history", "seen"],
+        "within": ["history", "version"],
+        "is_active": ["history", "deed"],
+        "is_final": ["history", "bound", "deed"],
+        "has_left": ["history", "hand"],
+        "is_shown": ["history", "sign"],
+        "is_dead": ["history", "bound", "sign"],
+        "path": ["history", "sign"],
+        "signs": ["history"],
+        "shown": ["history"],
+        "text": ["history"],
+        "is_allowed": ["history", "hands", "bound", "deed"],
+    },
+    "textatrest.throwing": {
+        "acknowledged": ["hands", "history", "own", "hand"],
+        "is_gone": ["hands", "bound", "history", "own", "sign"],
+        "kept": ["hands", "bound", "history", "own"],
+        "witness": ["hands", "bound", "history", "own", "sign"],
+        "fault": ["hands", "bound", "history", "own", "sign", "course"],
+    },
 }
 
 

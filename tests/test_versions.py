@@ -3,7 +3,7 @@
 import unittest
 from itertools import product
 
-from textatrest.versions import includes, joined, knows, time_of
+from textatrest.versions import includes, joined, knows, time_of, with_itself
 
 HUGE = 10 ** 40
 
@@ -149,6 +149,16 @@ class Knows(unittest.TestCase):
         later = deed(0, 0, HUGE, (0, HUGE))
         self.assertIs(knows(later, deed(1, HUGE - 1, 1, (0, HUGE - 1))), True)
         self.assertIs(knows(later, deed(1, HUGE, 1, (0, HUGE))), False)
+
+
+class WithItself(unittest.TestCase):
+    def test_it_is_what_the_deed_has_seen_and_the_deed(self):
+        self.assertEqual(with_itself(deed(0, 2, 9, (2, 3))), (3, 3))
+        self.assertEqual(with_itself(deed(1, 3, 9, (2, 3))), (2, 4))
+        for hand in range(4):
+            seen = (4, 5, 6, 7)
+            expected = tuple([many + (at == hand) for at, many in enumerate(seen)])
+            self.assertEqual(with_itself(deed(hand, seen[hand], 9, seen)), expected)
 
 
 class TimeOf(unittest.TestCase):

@@ -25,3 +25,9 @@ def knows(deed, other):
 def time_of(deed):
     """The tuple (clock, hand): of two deeds the later one has the greater."""
     return (deed[2], deed[0])
+
+
+def with_itself(deed):
+    """The version that the deed has seen, together with the deed."""
+    hand, number, seen = deed[0], deed[1], deed[3]
+    return seen[:hand] + (number + 1,) + seen[hand + 1:]
