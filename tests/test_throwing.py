@@ -177,9 +177,9 @@ class Gone(unittest.TestCase):
         made.settle()
         made.settle()
         self.assertEqual(kept_by(made, 0), run_signs(put))
-        made.do(0, ("put", None, "c"))
+        last = made.do(0, ("put", None, "c"))
         made.settle()
-        self.assertEqual(kept_by(made, 0), [(0, 3 + 1, 0), sign_of(put, 1)])
+        self.assertEqual(kept_by(made, 0), [sign_of(last, 0), sign_of(put, 1)])
 
     def test_a_put_that_is_taken_back_until_it_is_final(self):
         made = Text(2, 1)
@@ -261,7 +261,8 @@ class All(unittest.TestCase):
         for sign in plain_order(history):
             if gone(made, hand, sign):
                 row[sign] = True
-            self.assertNotIn(sign, row if not gone(made, hand, sign) else {})
+            else:
+                self.assertNotIn(sign, row)
 
     def test_the_random_texts_have_hands_that_left_and_hands_that_stayed(self):
         left = [plain_left(made.histories[0], hand) for made in random_texts(40, 60) for hand in range(made.hands)]
