@@ -240,6 +240,33 @@ def plain_fault(hands, bound, history, own, sign, course):
     return None if referred or plain_shown_sign(history + course, sign) else ("needless",)
 
 
+def plain_hear(number, history, waiting, deeds):
+    """What the hand takes, has, and lets wait behind it, if it hears the deeds (point 14)."""
+    waiting, taken = list(waiting), []
+    for deed in deeds:
+        if deed not in history and deed not in waiting and deed[0] != number:
+            waiting.append(deed)
+    while True:
+        version = [len([deed for deed in history if deed[0] == hand]) for hand in range(4)]
+        ready = [deed for deed in waiting if all(mine <= has for mine, has in zip(deed[3], version))]
+        if not ready:
+            return taken, history, sorted(waiting, key=plain_time)
+        earliest = min(ready, key=plain_time)
+        waiting.remove(earliest)
+        taken.append(earliest)
+        history = history + (earliest,)
+
+
+def plain_time(deed):
+    return (deed[2], deed[0])
+
+
+def plain_news(hands, history, own, hand):
+    """Point 16."""
+    known = plain_acknowledged(hands, history, own, hand)
+    return tuple(sorted([deed for deed in history if deed[1] >= known[deed[0]]], key=plain_time))
+
+
 def random_act(source, history, bound, hand):
     """Any act that the hand can do now, but a leave."""
     live = [sign for sign in plain_order(history) if not plain_dead(history, bound, sign)]

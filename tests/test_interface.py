@@ -42,6 +42,49 @@ FUNCTIONS = {
         "witness": ["hands", "bound", "history", "own", "sign"],
         "fault": ["hands", "bound", "history", "own", "sign", "course"],
     },
+    "textatrest.records": {
+        "write_deed": ["deed"],
+        "read_deed": ["hands", "text"],
+    },
+}
+
+CLASSES = {
+    ("textatrest.hands", "Hand"): {
+        "__init__": ["self", "hands", "number", "bound"],
+        "put": ["self", "at", "text"],
+        "cut": ["self", "at", "many"],
+        "mark": ["self", "at", "many", "value"],
+        "toggle": ["self", "number"],
+        "note": ["self"],
+        "leave": ["self"],
+        "do": ["self", "act"],
+        "hear": ["self", "deeds"],
+        "number": ["self"],
+        "version": ["self"],
+        "has_left": ["self"],
+        "waiting": ["self"],
+        "history": ["self"],
+        "news": ["self", "hand"],
+        "text": ["self"],
+        "shown": ["self"],
+        "kept": ["self"],
+    },
+    ("textatrest.disks", "Disk"): {
+        "__init__": ["self", "blocks"],
+        "size": ["self"],
+        "read": ["self", "at"],
+        "write": ["self", "at", "block"],
+        "flush": ["self"],
+        "pending_count": ["self"],
+        "cut_count": ["self"],
+        "cut_power": ["self", "torn"],
+        "schedule_cut": ["self", "many", "torn"],
+    },
+}
+
+NUMBERS = {
+    "textatrest.acts": {"RUN_MOST": 8, "SIGNS_MOST": 8},
+    "textatrest.disks": {"BLOCK": 32, "BLOCKS_MOST": 400},
 }
 
 
@@ -55,6 +98,24 @@ class Interface(unittest.TestCase):
                     self.assertTrue(inspect.isfunction(found))
                     self.assertEqual(found.__module__, place)
                     self.assertEqual(list(inspect.signature(found).parameters), arguments)
+
+    def test_classes_stand_in_their_files_with_their_own_methods(self):
+        for (place, name), listed in CLASSES.items():
+            found = getattr(importlib.import_module(place), name)
+            self.assertTrue(inspect.isclass(found))
+            self.assertEqual(found.__module__, place)
+            for method, arguments in listed.items():
+                with self.subTest(place=place, name=name, method=method):
+                    own = vars(found)[method]
+                    self.assertTrue(inspect.isfunction(own))
+                    self.assertEqual(list(inspect.signature(own).parameters), arguments)
+
+    def test_numbers(self):
+        for place, listed in NUMBERS.items():
+            module = importlib.import_module(place)
+            for name, number in listed.items():
+                with self.subTest(place=place, name=name):
+                    self.assertEqual(getattr(module, name), number)
 
 
 if __name__ == "__main__":
