@@ -46,6 +46,14 @@ FUNCTIONS = {
         "write_deed": ["deed"],
         "read_deed": ["hands", "text"],
     },
+    "textatrest.blocks": {
+        "encode_record": ["number", "text"],
+        "decode_piece": ["block"],
+    },
+    "textatrest.log": {
+        "format_disk": ["disk", "hands", "number", "bound"],
+        "open_log": ["disk"],
+    },
 }
 
 CLASSES = {
@@ -80,11 +88,51 @@ CLASSES = {
         "cut_power": ["self", "torn"],
         "schedule_cut": ["self", "many", "torn"],
     },
+    ("textatrest.log", "Log"): {
+        "head": ["self"],
+        "deeds": ["self"],
+        "append": ["self", "deed"],
+        "room": ["self", "deeds"],
+        "sync": ["self"],
+        "free_blocks": ["self"],
+    },
+    ("textatrest.house", "House"): {
+        "__init__": ["self", "disk"],
+        "do": ["self", "act"],
+        "hear": ["self", "deeds"],
+        "news": ["self", "hand"],
+        "sync": ["self"],
+        "history": ["self"],
+        "version": ["self"],
+        "text": ["self"],
+        "shown": ["self"],
+        "kept": ["self"],
+        "has_left": ["self"],
+        "free_blocks": ["self"],
+    },
+    ("textatrest.link", "Link"): {
+        "__init__": ["self", "hands", "bound", "blocks"],
+        "do": ["self", "hand", "act"],
+        "sync": ["self", "hand"],
+        "send": ["self", "hand", "to"],
+        "letters": ["self"],
+        "drop": ["self", "at"],
+        "duplicate": ["self", "at"],
+        "deliver": ["self", "at"],
+        "histories": ["self"],
+        "text": ["self", "hand"],
+        "kept": ["self", "hand"],
+        "is_open": ["self", "hand"],
+        "cut_power": ["self", "hand", "torn"],
+        "schedule_cut": ["self", "hand", "many", "torn"],
+        "reopen": ["self", "hand"],
+    },
 }
 
 NUMBERS = {
     "textatrest.acts": {"RUN_MOST": 8, "SIGNS_MOST": 8},
     "textatrest.disks": {"BLOCK": 32, "BLOCKS_MOST": 400},
+    "textatrest.blocks": {"PIECE": 24, "PIECES_MOST": 10},
 }
 
 

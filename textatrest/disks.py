@@ -85,9 +85,9 @@ class Disk:
         if self.until_cut is not None:
             self.until_cut -= 1
 
-    def store(self, many):
-        """Stores the first many[i] bytes of waiting write number i; then no write waits."""
-        for (at, block), stays in zip(self.unflushed, many):
+    def store(self, lengths):
+        """Stores the first lengths[i] bytes of waiting write number i; then no write waits."""
+        for (at, block), stays in zip(self.unflushed, lengths):
             self.stored[at] = block[:stays] + self.stored[at][stays:]
         self.unflushed = []
 

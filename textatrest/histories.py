@@ -8,7 +8,7 @@ from textatrest.acts import is_writing, signs_of
 from textatrest.errors import NoSign
 from textatrest.paths import comes_before, step_of
 from textatrest.tallies import Tally
-from textatrest.versions import time_of
+from textatrest.versions import includes, time_of
 
 
 def version_of(hands, history):
@@ -107,6 +107,22 @@ def is_allowed(history, hands, bound, deed):
     if act[0] == "toggle":
         return can_toggle(before, bound, (hand, act[1]))
     return True
+
+
+def fits(history, hands, bound, deed):
+    """Whether a deed of one of the hands, with an act within its bounds, can stand next in the history."""
+    hand, number, clock, seen = deed[:4]
+    there = version_of(hands, history)
+    if not number == seen[hand] == there[hand] or not includes(there, seen):
+        return False
+    if not is_closed(history, seen) or clock != clock_for(history, seen):
+        return False
+    return is_allowed(history, hands, bound, deed)
+
+
+def is_closed(history, version):
+    """Whether the version includes with every deed all that this has seen."""
+    return all([includes(version, deed[3]) for deed in within(history, version)])
 
 
 def can_refer(history, bound, act):

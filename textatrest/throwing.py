@@ -8,7 +8,7 @@ its deeds refers to the sign.
 from textatrest.acts import is_act, signs_of
 from textatrest.errors import NoSign
 from textatrest.histories import (
-    clock_for, cuts_of, dead_signs, has_left, is_active, is_allowed, is_dead,
+    clock_for, cuts_of, dead_signs, fits, has_left, is_active, is_dead,
     is_shown, put_of, puts_of, signs, version_of, within,
 )
 from textatrest.versions import includes, joined, with_itself
@@ -125,27 +125,10 @@ def course_that_refers(hands, bound, history, own, sign, put):
 
 def can_follow(hands, bound, history, own, done, deed):
     """Whether its hand could do the deed next, behind the deeds of the course that are done."""
-    hand, number, clock, seen, act = deed
+    hand, seen, act = deed[0], deed[3], deed[4]
     if not 0 <= hand < hands or len(seen) != hands:
         return False
-    known = history + done
-    there = version_of(hands, known)
-    if number != there[hand] or not includes(there, seen):
+    if not includes(seen, acknowledged(hands, history, own, hand)):
         return False
-    if not includes(seen, least_seen(hands, history, own, done, hand)) or not is_closed(known, seen):
-        return False
-    return clock == clock_for(known, seen) and is_act(act) and is_allowed(known, hands, bound, deed)
-
-
-def least_seen(hands, history, own, done, hand):
-    """What the next deed of a hand has seen at least, behind the deeds of the course that are done."""
-    version = acknowledged(hands, history, own, hand)
-    for deed in done:
-        if deed[0] == hand:
-            version = joined(version, with_itself(deed))
-    return version
-
-
-def is_closed(history, version):
-    """Whether the version includes with every deed all that this has seen."""
-    return all([includes(version, deed[3]) for deed in within(history, version)])
+    # What fits has seen all deeds of its hand ahead of it, those of the course too, with all that they have seen.
+    return is_act(act) and fits(history + done, hands, bound, deed)
